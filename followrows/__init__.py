@@ -1,0 +1,1 @@
+"""Followrows: clauses along rows of any length."""

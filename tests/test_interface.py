@@ -1,0 +1,40 @@
+"""The names, arguments and places of the interface of DOC.md."""
+
+import importlib
+import inspect
+import unittest
+
+FUNCTIONS = {
+    'followrows.clauses': [
+        'is_clause(size, thing)',
+        'is_writing(thing)',
+        'writing_of(inputs, size, first=(), each=(), nexts=(), last=())',
+        'flat(writing, many)',
+        'cost(writing, many)',
+    ],
+    'followrows.columns': [
+        'all_columns(size)',
+        'is_row(size, thing)',
+        'is_setting(inputs, thing)',
+        'is_word(inputs, thing)',
+        'bare(writing, setting)',
+        'inputs_of(writing, row)',
+        'is_less(one, other)',
+    ],
+}
+
+
+class Interface(unittest.TestCase):
+
+    def test_functions(self):
+        for place, lines in FUNCTIONS.items():
+            module = importlib.import_module(place)
+            for line in lines:
+                with self.subTest(line):
+                    function = getattr(module, line.partition('(')[0])
+                    self.assertEqual(function.__name__ + str(inspect.signature(function)), line)
+                    self.assertEqual(function.__module__, place)
+
+
+if __name__ == '__main__':
+    unittest.main()
