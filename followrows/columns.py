@@ -1,7 +1,7 @@
 """Columns, rows, settings and words, and the order of settings."""
 
 from followrows.clauses import check_writing
-from followrows.errors import InvalidRow, InvalidSetting
+from followrows.errors import InvalidRow, InvalidSetting, InvalidWord
 
 # What an entry can be, in the order of entries.
 ENTRIES = (None, False, True)
@@ -13,6 +13,16 @@ def all_columns(size):
     for _ in range(size):
         columns = [column + (entry,) for column in columns for entry in ENTRIES]
     return columns
+
+
+def full_columns(size):
+    """Return the list of the columns that tell all of so many signs, in order."""
+    return [column for column in all_columns(size) if None not in column]
+
+
+def tells_at_least(column, least):
+    """Return whether a column tells at least what another one of as many signs, or fewer, tells."""
+    return all([worth is None or entry == worth for entry, worth in zip(column, least)])
 
 
 def is_entry(thing):
@@ -54,6 +64,12 @@ def check_setting(inputs, thing):
     """Raise InvalidSetting if an object is no setting of so many inputs."""
     if not is_setting(inputs, thing):
         raise InvalidSetting("this is no setting of as many inputs")
+
+
+def check_word(inputs, thing):
+    """Raise InvalidWord if an object is no word of so many inputs."""
+    if not is_word(inputs, thing):
+        raise InvalidWord("this is no word of as many inputs")
 
 
 def bare(writing, setting):

@@ -17,3 +17,9 @@ def check_from_one(thing):
     """Raise InvalidNumber if an object is no integer from 1 on."""
     if not is_integer(thing) or thing < 1:
         raise InvalidNumber("this is no integer from 1 on")
+
+
+def check_between(low, high, thing):
+    """Raise InvalidNumber if an object is no integer from low to high."""
+    if not is_between(low, high, thing):
+        raise InvalidNumber("this is no integer in the range that is asked")

@@ -1,6 +1,9 @@
-"""The examples of DOC.md for the stages that have landed, as they stand there."""
+"""The examples of DOC.md for the stages that have landed, as they stand there, and those of README.md."""
 
+import pathlib
 import unittest
+
+README = pathlib.Path(__file__).resolve().parent.parent / 'README.md'
 
 EXAMPLES = """
 >>> from followrows.clauses import cost, flat, is_clause, writing_of
@@ -23,6 +26,39 @@ EXAMPLES = """
 [(None,), (True,)]
 >>> [is_less([(True,)], [(None,), (None,)]), is_less([(True,)], [(False,)]), is_setting(1, [])]
 [True, False, False]
+
+>>> from followrows.following import followed, seen
+>>> followed(ladder, [(None, None), (True, None), (None, None)])
+[(False, False), (True, True), (False, True)]
+>>> [seen(ladder, [(True,), (None,), (None,)]), seen(ladder, [(True,), (None,), (True,)])]
+[[(True,), (False,), (False,)], None]
+
+>>> from followrows.courses import course, is_course, is_reason, reason
+>>> row = [(None, None), (True, None)]
+>>> is_course(ladder, row, [('nexts', 1, 0), ('each', 0, 1), ('each', 0, 0)])
+True
+>>> [is_reason(ladder, row, 0, 2, reason(ladder, row, 0, 2)), reason(ladder, [(None, None)], 0, 2)]
+[True, None]
+>>> is_reason(ladder, row, 0, 1, [('nexts', 1, 0), ('each', 0, 0)])
+True
+
+>>> from followrows.words import filling, has_filling, how_many, is_written, words
+>>> words(ladder, 2)
+[[(False,), (False,)], [(False,), (True,)], [(True,), (False,)]]
+>>> [filling(ladder, [(True,), (False,)]), how_many(ladder, [(False,), (False,)]), is_written(ladder, [(True,), (True,)])]
+[[(True, True), (False, True)], 3, False]
+>>> has_filling(ladder, [(None,), (True,)])
+True
+
+>>> from followrows.wishes import apart, at_most, both, can_come, forced, is_wished, just, parting_word
+>>> at_most(1)
+(1, ((0, 1), (1, 2), (2, 2)), (True, True, False))
+>>> apart(1)
+(1, ((0, 1), (0, 2), (2, 2)), (True, True, False))
+>>> [forced(just(1), [(False,), (None,)]), forced(at_most(1), [(True,), (None,), (True,)]), can_come(apart(2), [(True,), (None,), (True,)])]
+[[(False,), (True,)], None, False]
+>>> [parting_word(at_most(1), apart(1)), parting_word(both(at_most(2), at_most(1)), at_most(1))]
+[[(True,), (False,), (True,)], None]
 """
 
 
@@ -39,14 +75,22 @@ def split_examples(text):
 
 class Examples(unittest.TestCase):
 
-    def test_all(self):
+    def check(self, text):
+        """Fail unless each line of code in a text has the answer that stands behind it."""
         names = {}
-        for code, answer in split_examples(EXAMPLES):
+        for code, answer in split_examples(text):
             with self.subTest(code):
                 if answer is None:
                     exec(code, names)
                 else:
                     self.assertEqual(repr(eval(code, names)), answer)
+
+    def test_document(self):
+        self.check(EXAMPLES)
+
+    def test_readme(self):
+        blocks = README.read_text(encoding='utf-8').split('```')[1::2]
+        self.check(''.join(block for block in blocks if block.startswith('\n>>> ')))
 
 
 if __name__ == '__main__':

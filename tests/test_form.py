@@ -117,6 +117,35 @@ class Form(unittest.TestCase):
                         self.assertNotIsInstance(node.value, (float, complex))
                         self.assertFalse(isinstance(node.value, str) and '%' in node.value)
 
+    def test_is_and_powers(self):
+        for name, tree in trees():
+            for node in ast.walk(tree):
+                if isinstance(node, ast.Compare) and any(isinstance(op, (ast.Is, ast.IsNot)) for op in node.ops):
+                    self.assertIsInstance(node.comparators[0], ast.Constant, name)
+                    self.assertIn(repr(node.comparators[0].value), ('None', 'True', 'False'), name)
+                if isinstance(node, ast.BinOp) and isinstance(node.op, ast.Pow):
+                    self.assertIsInstance(node.right, ast.Constant, name)
+
+    def test_names_that_are_imported_are_not_given_to_others(self):
+        for name, tree in trees():
+            taken = {word for _, word in imported(tree)}
+            taken |= {node.name for node in tree.body if isinstance(node, ast.ClassDef)}
+            for node in ast.walk(tree):
+                if isinstance(node, ast.Name) and isinstance(node.ctx, ast.Store):
+                    self.assertNotIn(node.id, taken, name)
+                if isinstance(node, ast.arg):
+                    self.assertNotIn(node.arg, taken, name)
+
+    def test_sets_stand_where_they_may(self):
+        for name, tree in trees():
+            parents = {child: node for node in ast.walk(tree) for child in ast.iter_child_nodes(node)}
+            for node in ast.walk(tree):
+                made = isinstance(node, ast.Call) and getattr(node.func, 'id', '') in ('set', 'frozenset')
+                if made or isinstance(node, (ast.Set, ast.SetComp)):
+                    above = parents[node]
+                    self.assertIsInstance(above, ast.Call, name)
+                    self.assertIn(above.func.id, ('sorted', 'len'), name)
+
     def test_builtins_and_methods(self):
         own = {node.name for _, tree in trees() for node in ast.walk(tree) if isinstance(node, ast.FunctionDef)}
         for name, tree in trees():

@@ -21,6 +21,34 @@ FUNCTIONS = {
         'inputs_of(writing, row)',
         'is_less(one, other)',
     ],
+    'followrows.following': [
+        'followed(writing, row)',
+        'seen(writing, setting)',
+    ],
+    'followrows.courses': [
+        'course(writing, row)',
+        'is_course(writing, row, thing)',
+        'reason(writing, row, column, sign)',
+        'is_reason(writing, row, column, sign, thing)',
+    ],
+    'followrows.words': [
+        'is_written(writing, word)',
+        'filling(writing, word)',
+        'how_many(writing, word)',
+        'has_filling(writing, setting)',
+        'words(writing, many)',
+    ],
+    'followrows.wishes': [
+        'is_wish(thing)',
+        'at_most(most)',
+        'just(most)',
+        'apart(gap)',
+        'is_wished(wish, word)',
+        'can_come(wish, setting)',
+        'forced(wish, setting)',
+        'both(one, other)',
+        'parting_word(one, other)',
+    ],
 }
 
 
