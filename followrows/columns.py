@@ -1,7 +1,7 @@
 """Columns, rows, settings and words, and the order of settings."""
 
 from followrows.clauses import check_writing
-from followrows.errors import InvalidRow, InvalidSetting, InvalidWord
+from followrows.errors import InvalidColumn, InvalidRow, InvalidSetting, InvalidWord
 
 # What an entry can be, in the order of entries.
 ENTRIES = (None, False, True)
@@ -54,6 +54,12 @@ def is_word(inputs, thing):
     return is_setting(inputs, thing) and not any([None in column for column in thing])
 
 
+def check_column(size, thing):
+    """Raise InvalidColumn if an object is no column of so many signs."""
+    if not is_column(size, thing):
+        raise InvalidColumn("this is no column of the writing")
+
+
 def check_row(size, thing):
     """Raise InvalidRow if an object is no row of columns of so many signs."""
     if not is_row(size, thing):
@@ -91,6 +97,12 @@ def inputs_of(writing, row):
 def ranks(column):
     """Return the list of the places of a column's entries in the order of entries."""
     return [ENTRIES.index(entry) for entry in column]
+
+
+def is_ascending(columns):
+    """Return whether each of some columns of as many signs is less than the one behind it."""
+    places = [ranks(column) for column in columns]
+    return all([one < other for one, other in zip(places, places[1:])])
 
 
 def is_less(one, other):

@@ -59,6 +59,39 @@ True
 [[(False,), (True,)], None, False]
 >>> [parting_word(at_most(1), apart(1)), parting_word(both(at_most(2), at_most(1)), at_most(1))]
 [[(True,), (False,), (True,)], None]
+
+>>> from followrows.settled import behind, followers, is_end, is_settled, standing_of, standings, starts
+>>> starts(ladder)
+[(None, None), (None, True), (False, None), (False, False), (False, True), (True, True)]
+>>> [followers(ladder, (True, True)), followers(ladder, (None, None))]
+[[(False, True)], [(None, None), (None, True), (False, None), (False, True)]]
+>>> [is_settled(ladder, [(None, None), (True, True)]), is_settled(ladder, [(False, False), (True, True)]), is_end(ladder, (None, None))]
+[False, True, True]
+>>> standings(ladder, 10)[2:]
+[[(True, True)], [(False, True)], []]
+>>> standing_of(ladder, [(None, None), (True, None)]) == behind(ladder, starts(ladder), (True, None))
+True
+
+>>> from followrows.right import is_right, shows_words, words_table, wrong_word
+>>> short = writing_of(1, 2, each=[(-1, 2)], nexts=[(-3, -2)])
+>>> [is_right(ladder, at_most(1)), wrong_word(short, at_most(1)), wrong_word(ladder, just(1))]
+[True, [(True,), (False,), (True,)], [(False,)]]
+>>> [len(words_table(ladder, at_most(1))), words_table(ladder, just(1)), shows_words(ladder, at_most(1), [])]
+[4, None, False]
+
+>>> from followrows.ends import ends_table, sees_ends, shows_ends, unseen_end
+>>> [sees_ends(ladder, at_most(1)), unseen_end(short, at_most(1)), len(ends_table(ladder, at_most(1)))]
+[True, [(True,), (None,), (True,)], 13]
+>>> shows_ends(ladder, at_most(1), ends_table(ladder, at_most(1))[:-1])
+False
+
+>>> from followrows.forced import all_table, sees_all, shows_all, unseen
+>>> split = writing_of(1, 3, each=[(-1, 2)], nexts=[(-2, 5), (-4, -2, 6), (-6, -4, -2)])
+>>> [is_right(split, at_most(1)), sees_ends(split, at_most(1)), unseen(split, at_most(1)), sees_all(ladder, at_most(1))]
+[True, True, [(None,), (True,)], True]
+>>> free, every = writing_of(1, 1), (1, ((0, 0),), (True,))
+>>> [all_table(split, at_most(1)), [len(part) for part in all_table(free, every)], shows_all(free, every, all_table(free, every))]
+[None, [3, 3], True]
 """
 
 

@@ -49,6 +49,33 @@ FUNCTIONS = {
         'both(one, other)',
         'parting_word(one, other)',
     ],
+    'followrows.settled': [
+        'is_settled(writing, row)',
+        'starts(writing)',
+        'followers(writing, column)',
+        'is_end(writing, column)',
+        'standing_of(writing, row)',
+        'behind(writing, standing, column)',
+        'standings(writing, limit)',
+    ],
+    'followrows.right': [
+        'wrong_word(writing, wish)',
+        'is_right(writing, wish)',
+        'words_table(writing, wish)',
+        'shows_words(writing, wish, thing)',
+    ],
+    'followrows.ends': [
+        'unseen_end(writing, wish)',
+        'sees_ends(writing, wish)',
+        'ends_table(writing, wish)',
+        'shows_ends(writing, wish, thing)',
+    ],
+    'followrows.forced': [
+        'unseen(writing, wish)',
+        'sees_all(writing, wish)',
+        'all_table(writing, wish)',
+        'shows_all(writing, wish, thing)',
+    ],
 }
 
 
