@@ -92,6 +92,28 @@ False
 >>> free, every = writing_of(1, 1), (1, ((0, 0),), (True,))
 >>> [all_table(split, at_most(1)), [len(part) for part in all_table(free, every)], shows_all(free, every, all_table(free, every))]
 [None, [3, 3], True]
+
+>>> from followrows.toomuch import is_sound, too_much
+>>> [is_sound(ladder, at_most(2)), too_much(ladder, at_most(2)), is_sound(split, at_most(1))]
+[False, [(None,), (True,)], True]
+
+>>> from followrows.alike import are_alike, is_closed, parting, sees_more
+>>> [parting(ladder, split), sees_more(ladder, split), sees_more(split, ladder), are_alike(ladder, ladder)]
+[[(None,), (True,)], True, False, True]
+>>> [is_closed(ladder, [(None,), (True,)]), is_closed(split, [(None,), (True,)])]
+[False, True]
+
+>>> from followrows.spare import least_additions, needless, with_all, without
+>>> [needless(ladder), without(ladder, 'nexts', 0) == short]
+[[], True]
+>>> least_additions(split, at_most(1), [('each', (-1, 3)), ('nexts', (-4, -2)), ('each', (-3, 1))])
+[[1]]
+
+>>> from followrows.lemmas import broken_at, holds, is_followed, is_kept
+>>> [holds(split, (-4, -2)), is_followed(split, (-4, -2)), is_kept(split, (-4, -2)), is_kept(ladder, (-3, -1))]
+[True, True, False, True]
+>>> broken_at(ladder, (1, 2, 3, 4))
+([(False, False), (False, False)], 0)
 """
 
 

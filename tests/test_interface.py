@@ -76,6 +76,28 @@ FUNCTIONS = {
         'all_table(writing, wish)',
         'shows_all(writing, wish, thing)',
     ],
+    'followrows.toomuch': [
+        'too_much(writing, wish)',
+        'is_sound(writing, wish)',
+    ],
+    'followrows.alike': [
+        'parting(one, other)',
+        'are_alike(one, other)',
+        'sees_more(one, other)',
+        'is_closed(writing, setting)',
+    ],
+    'followrows.spare': [
+        'without(writing, part, index)',
+        'needless(writing)',
+        'with_all(writing, menu)',
+        'least_additions(writing, wish, menu)',
+    ],
+    'followrows.lemmas': [
+        'holds(writing, lemma)',
+        'is_followed(writing, lemma)',
+        'is_kept(writing, lemma)',
+        'broken_at(writing, lemma)',
+    ],
 }
 
 
