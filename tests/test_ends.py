@@ -4,10 +4,10 @@ import itertools
 import unittest
 
 from followrows.ends import ends_table, sees_ends, shows_ends, unseen_end
-from followrows.errors import InvalidMatch, InvalidWish, InvalidWriting
 from followrows.wishes import at_most
-from tests.anything import leaves_alone, raises, strange_objects, with_place
-from tests.reference import LADDER, NO_WISHES, NO_WRITINGS, made_wishes, slow_forced
+from tests.anything import leaves_alone, strange_objects, with_place
+from tests.misfits import refuses_misfits
+from tests.reference import LADDER, made_wishes, slow_forced
 from tests.tables import (EVERY, FREE, HUNDREDS, HUNDREDS_TWO, JUST_ONE, NEVER, NO_WORD, PARITY, SEEN_WHOLE, SHORT,
                           SPLIT, TURNS, WISH_COUNTER, WISH_EVEN, WISH_JUST_ONE, WISH_ONE, WISH_TURNS, all_forced,
                           changed, columns, ends_closed, ends_in_order, groups, sights, slow_ends, slow_ends_table,
@@ -211,26 +211,11 @@ class ShowsEnds(unittest.TestCase):
 
 class Errors(unittest.TestCase):
 
-    def test_no_writing(self):
-        for thing in strange_objects() + NO_WRITINGS:
-            for wish in (WISH_ONE, None, WISH_TURNS):
-                for function in FUNCTIONS:
-                    raises(self, InvalidWriting, function, thing, wish)
-                raises(self, InvalidWriting, shows_ends, thing, wish, [])
-
-    def test_no_wish(self):
-        for thing in strange_objects() + NO_WISHES:
-            for writing in (LADDER, TURNS):
-                for function in FUNCTIONS:
-                    raises(self, InvalidWish, function, writing, thing)
-                raises(self, InvalidWish, shows_ends, writing, thing, None)
-
-    def test_no_match(self):
-        for writing, wish in [(LADDER, WISH_TURNS), (TURNS, WISH_ONE), (NEVER, (2, ((0, 0, 0, 0),), (True,)))]:
-            for function in FUNCTIONS:
-                raises(self, InvalidMatch, function, writing, wish)
-            for thing in ([], None, [((None,), (0,))]):
-                raises(self, InvalidMatch, shows_ends, writing, wish, thing)
+    def test_misfits(self):
+        for function in FUNCTIONS:
+            refuses_misfits(self, function)
+        for thing in ([], None, [((None,), (0,))]):
+            refuses_misfits(self, shows_ends, thing)
 
 
 if __name__ == '__main__':

@@ -3,13 +3,13 @@
 import itertools
 import unittest
 
-from followrows.errors import InvalidMatch, InvalidWish, InvalidWriting
 from followrows.ends import ends_table, sees_ends
 from followrows.forced import all_table, sees_all, shows_all, unseen
 from followrows.right import is_right
 from followrows.wishes import at_most
-from tests.anything import leaves_alone, raises, strange_objects, with_place
-from tests.reference import LADDER, NO_WISHES, NO_WRITINGS, made_wishes, slow_forced
+from tests.anything import leaves_alone, strange_objects, with_place
+from tests.misfits import refuses_misfits
+from tests.reference import LADDER, made_wishes, slow_forced
 from tests.tables import (EVERY, FREE, HUNDREDS, HUNDREDS_TWO, JUST_ONE, NEAR, NEVER, NO_WORD, PARITY, SEEN_WHOLE,
                           SPLIT, TURNS, WISH_EVEN, WISH_JUST_ONE, WISH_NEAR, WISH_ONE, WISH_TURNS, all_forced,
                           changed, columns, ends_closed, groups, lets_forced, marks_closed, marks_needed, place_of,
@@ -257,26 +257,11 @@ class ShowsAll(unittest.TestCase):
 
 class Errors(unittest.TestCase):
 
-    def test_no_writing(self):
-        for thing in strange_objects() + NO_WRITINGS:
-            for wish in (WISH_ONE, None, WISH_TURNS):
-                for function in FUNCTIONS:
-                    raises(self, InvalidWriting, function, thing, wish)
-                raises(self, InvalidWriting, shows_all, thing, wish, ([], []))
-
-    def test_no_wish(self):
-        for thing in strange_objects() + NO_WISHES:
-            for writing in (LADDER, TURNS):
-                for function in FUNCTIONS:
-                    raises(self, InvalidWish, function, writing, thing)
-                raises(self, InvalidWish, shows_all, writing, thing, None)
-
-    def test_no_match(self):
-        for writing, wish in [(LADDER, WISH_TURNS), (TURNS, WISH_ONE), (NEVER, (2, ((0, 0, 0, 0),), (True,)))]:
-            for function in FUNCTIONS:
-                raises(self, InvalidMatch, function, writing, wish)
-            for thing in ([], None, ([], [])):
-                raises(self, InvalidMatch, shows_all, writing, wish, thing)
+    def test_misfits(self):
+        for function in FUNCTIONS:
+            refuses_misfits(self, function)
+        for thing in (([], []), None, []):
+            refuses_misfits(self, shows_all, thing)
 
 
 if __name__ == '__main__':

@@ -3,11 +3,11 @@
 import itertools
 import unittest
 
-from followrows.errors import InvalidMatch, InvalidWish, InvalidWriting
 from followrows.right import is_right, shows_words, words_table, wrong_word
 from followrows.wishes import at_most, just
-from tests.anything import leaves_alone, raises, strange_objects, with_place
-from tests.reference import BOOLS, LADDER, NO_WISHES, NO_WRITINGS, all_words, made_wishes, made_writings, wished
+from tests.anything import leaves_alone, strange_objects, with_place
+from tests.misfits import refuses_misfits
+from tests.reference import BOOLS, LADDER, all_words, made_wishes, made_writings, wished
 from tests.tables import (COUNTER, EVERY, FREE, HUNDREDS, HUNDREDS_TWO, JUST_ONE, NEVER, NO_WORD, PARITY, SEEN_WHOLE,
                           SHORT, SPLIT, TURNS, WISH_COUNTER, WISH_EVEN, WISH_JUST_ONE, WISH_ONE, WISH_TURNS, changed,
                           groups, slow_shows_words, slow_words_table, slow_written, words_closed, words_pairs_behind,
@@ -237,26 +237,11 @@ class ShowsWords(unittest.TestCase):
 
 class Errors(unittest.TestCase):
 
-    def test_no_writing(self):
-        for thing in strange_objects() + NO_WRITINGS:
-            for wish in (WISH_ONE, None, WISH_TURNS):
-                for function in FUNCTIONS:
-                    raises(self, InvalidWriting, function, thing, wish)
-                raises(self, InvalidWriting, shows_words, thing, wish, [])
-
-    def test_no_wish(self):
-        for thing in strange_objects() + NO_WISHES:
-            for writing in (LADDER, TURNS):
-                for function in FUNCTIONS:
-                    raises(self, InvalidWish, function, writing, thing)
-                raises(self, InvalidWish, shows_words, writing, thing, None)
-
-    def test_no_match(self):
-        for writing, wish in [(LADDER, WISH_TURNS), (TURNS, WISH_ONE), (FREE, (2, ((0, 0, 0, 0),), (True,)))]:
-            for function in FUNCTIONS:
-                raises(self, InvalidMatch, function, writing, wish)
-            for thing in ([], None, [((), 0)]):
-                raises(self, InvalidMatch, shows_words, writing, wish, thing)
+    def test_misfits(self):
+        for function in FUNCTIONS:
+            refuses_misfits(self, function)
+        for thing in ([], None, [((), 0)]):
+            refuses_misfits(self, shows_words, thing)
 
 
 if __name__ == '__main__':

@@ -1,16 +1,15 @@
 """Promises [9], [11] and [22], and of [2] what belongs to them: too much."""
 
-import itertools
 import unittest
 
-from followrows.errors import InvalidMatch, InvalidWish, InvalidWriting
 from followrows.right import is_right
 from followrows.toomuch import is_sound, too_much
 from followrows.wishes import at_most
-from tests.anything import leaves_alone, raises, strange_objects
-from tests.reference import LADDER, NO_WISHES, NO_WRITINGS, made_wishes, wished
+from tests.anything import leaves_alone
+from tests.misfits import refuses_misfits
+from tests.reference import LADDER, made_wishes, wished
 from tests.tables import (COUNTER, EVERY, FREE, HUNDREDS, HUNDREDS_TWO, NEAR, NEVER, NO_WORD, SEEN_WHOLE, SPLIT,
-                          TURNS, WISH_COUNTER, WISH_EVEN, WISH_ONE, WISH_TURNS, groups, is_too_much, settings_up_to,
+                          TURNS, WISH_COUNTER, WISH_EVEN, WISH_ONE, groups, is_too_much, settings_up_to,
                           sights, slow_seen, words_up_to)
 
 # Written are the words with an even number of columns, whatever stands in them.
@@ -117,20 +116,9 @@ class TooMuch(unittest.TestCase):
 
 class Errors(unittest.TestCase):
 
-    def test_no_writing(self):
-        for thing in strange_objects() + NO_WRITINGS:
-            for wish, function in itertools.product((WISH_ONE, None, WISH_TURNS), (too_much, is_sound)):
-                raises(self, InvalidWriting, function, thing, wish)
-
-    def test_no_wish(self):
-        for thing in strange_objects() + NO_WISHES:
-            for writing, function in itertools.product((LADDER, TURNS), (too_much, is_sound)):
-                raises(self, InvalidWish, function, writing, thing)
-
-    def test_no_match(self):
-        for writing, wish in [(LADDER, WISH_TURNS), (TURNS, WISH_ONE), (NEVER, (2, ((0, 0, 0, 0),), (True,)))]:
-            for function in (too_much, is_sound):
-                raises(self, InvalidMatch, function, writing, wish)
+    def test_misfits(self):
+        for function in (too_much, is_sound):
+            refuses_misfits(self, function)
 
 
 if __name__ == '__main__':
