@@ -3,6 +3,8 @@
 from followrows.clauses import check_writing
 from followrows.errors import InvalidColumn, InvalidRow, InvalidSetting, InvalidWord
 
+# How many columns there may be where more of them would take too long.
+MOST_COLUMNS = 300
 # What an entry can be, in the order of entries.
 ENTRIES = (None, False, True)
 

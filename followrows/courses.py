@@ -52,12 +52,16 @@ def follow_for(writing, row, column, sign):
     return following
 
 
+def steps_up_to(following, column, sign):
+    """Return the list of the steps that a following took until it told an entry, or None if it did not tell it."""
+    signs = [abs(literal) for literal in following.literals]
+    number = column * following.size + sign
+    return following.taken[:signs.index(number) + 1] if number in signs else None
+
+
 def reason(writing, row, column, sign):
     """Return a reason of an entry of a row, or None if following does not tell it."""
-    following = follow_for(writing, row, column, sign)
-    signs = [abs(literal) for literal in following.literals]
-    number = column * writing[1] + sign
-    return following.taken[:signs.index(number) + 1] if number in signs else None
+    return steps_up_to(follow_for(writing, row, column, sign), column, sign)
 
 
 def is_reason(writing, row, column, sign, thing):

@@ -31,6 +31,12 @@ def steps_at(writing, many, column):
     return [(name, index, column) for name in names for index in range(len(part_of(writing, name)))]
 
 
+def columns_about(column):
+    """Return the list of the columns at which steps may be left once an entry of a column is told."""
+    # An entry stands in the clauses of its column, and in those of nexts ahead of it.
+    return [place for place in (column - 1, column) if place >= 0]
+
+
 class Following:
     """A row as things stand while it is followed, and the steps that were taken in it.
 
@@ -89,9 +95,7 @@ class Following:
         steps = steps_at(self.basis, self.many, column)
         for step in steps:
             if self.take(step):
-                told = (abs(self.literals[-1]) - 1) // self.size
-                # An entry stands in the clauses of its column, and in those of nexts ahead of it.
-                columns.extend([place for place in (told - 1, told) if place >= 0])
+                columns.extend(columns_about((abs(self.literals[-1]) - 1) // self.size))
         return columns
 
     def columns_left(self):
@@ -100,14 +104,19 @@ class Following:
         return [tuple(self.entries[start:start + self.size]) for start in starts]
 
 
-def follow(writing, row):
-    """Return the following of a row that has gone as long as it can."""
+def follow_from(writing, row, columns):
+    """Return the following of a row that has gone as long as it can, where steps are left at some columns alone."""
     following = Following(writing, row)
-    waiting = list(range(len(row)))
+    waiting = list(columns)
     while waiting and not following.dead:
         column = waiting.pop()
         waiting.extend(following.take_all_at(column))
     return following
+
+
+def follow(writing, row):
+    """Return the following of a row that has gone as long as it can."""
+    return follow_from(writing, row, list(range(len(row))))
 
 
 def check_row_of(writing, row):

@@ -3,6 +3,8 @@
 import pathlib
 import unittest
 
+from followrows import errors
+
 README = pathlib.Path(__file__).resolve().parent.parent / 'README.md'
 
 EXAMPLES = """
@@ -114,6 +116,34 @@ False
 [True, True, False, True]
 >>> broken_at(ladder, (1, 2, 3, 4))
 ([(False, False), (False, False)], 0)
+
+>>> from followrows.turned import flipped, joined, mirrored
+>>> mirrored(ladder)
+(1, 2, (), ((-1, 2),), ((-4, 2), (-4, -1)), ())
+>>> flipped(ladder, 2)
+(1, 2, (), ((-2, -1),), ((-4, 2), (-3, 2)), ())
+>>> joined(ladder, writing_of(1, 2, first=[(-2, 1)], last=[(2,)]))
+(1, 3, ((-3, 1),), ((-1, 2),), ((-2, 5), (-4, -2)), ((3,),))
+
+>>> from followrows.runs import run_can_come, run_told
+>>> long = [((None,), 10 ** 30), ((True,), 1), ((None,), 10 ** 30)]
+>>> [run_told(ladder, long, 7), run_told(ladder, long, 2 * 10 ** 30), run_told(ladder, long + long, 7)]
+[(False, False), (False, True), None]
+>>> [run_can_come(just(1), long), run_can_come(just(2), [((False,), 10 ** 30)])]
+[True, False]
+
+>>> from followrows.counts import count_dead, count_lost, count_wished, count_written
+>>> [count_written(ladder, 300), count_wished(apart(1), 5), count_dead(ladder, 2), count_lost(at_most(1), 3)]
+[301, 13, 1, 7]
+
+>>> from followrows.led import Led
+>>> led = Led(ladder, 3)
+>>> [led.row, led.tell(1, 1, True), led.row]
+[[(None, None), (None, None), (None, None)], [(0, 1, False), (0, 2, False), (1, 2, True), (2, 1, False), (2, 2, True)], [(False, False), (True, True), (False, True)]]
+>>> [led.undo(), led.tell(0, 2, True), led.tell(2, 2, False)]
+raises AlreadyTold
+>>> [led.told, len(led), is_reason(ladder, [(None, True), (None, None), (None, None)], 1, 1, led.reason(1, 1))]
+[[(0, 2, True)], 1, True]
 """
 
 
@@ -137,8 +167,18 @@ class Examples(unittest.TestCase):
             with self.subTest(code):
                 if answer is None:
                     exec(code, names)
+                elif answer.startswith('raises '):
+                    self.check_raised(answer, code, names)
                 else:
                     self.assertEqual(repr(eval(code, names)), answer)
+
+    def check_raised(self, answer, code, names):
+        """Fail unless a line of code raises the error that stands behind it, with its line if one is told."""
+        name, _, line = answer.removeprefix('raises ').partition(' with line ')
+        with self.assertRaises(getattr(errors, name)) as caught:
+            eval(code, names)
+        if line:
+            self.assertEqual(caught.exception.line, int(line))
 
     def test_document(self):
         self.check(EXAMPLES)

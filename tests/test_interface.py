@@ -98,6 +98,28 @@ FUNCTIONS = {
         'is_kept(writing, lemma)',
         'broken_at(writing, lemma)',
     ],
+    'followrows.turned': [
+        'mirrored(writing)',
+        'flipped(writing, sign)',
+        'joined(one, other)',
+    ],
+    'followrows.runs': [
+        'run_told(writing, runs, place)',
+        'run_can_come(wish, runs)',
+    ],
+    'followrows.counts': [
+        'count_written(writing, many)',
+        'count_wished(wish, many)',
+        'count_dead(writing, many)',
+        'count_lost(wish, many)',
+    ],
+}
+# The methods as they are called, and the properties without anything behind their names.
+CLASSES = {
+    'followrows.led': {
+        'Led(writing, many)': ['tell(column, sign, value)', 'undo()', 'reason(column, sign)', 'copy()', '__len__()', 'row',
+                               'told'],
+    },
 }
 
 
@@ -111,6 +133,27 @@ class Interface(unittest.TestCase):
                     function = getattr(module, line.partition('(')[0])
                     self.assertEqual(function.__name__ + str(inspect.signature(function)), line)
                     self.assertEqual(function.__module__, place)
+
+    def test_classes(self):
+        for place, classes in CLASSES.items():
+            module = importlib.import_module(place)
+            for line, members in classes.items():
+                own = getattr(module, line.partition('(')[0])
+                self.assertTrue(inspect.isclass(own))
+                self.assertEqual(own.__name__ + str(inspect.signature(own)), line)
+                self.assertEqual(own.__module__, place)
+                for member in members:
+                    with self.subTest(line, member=member):
+                        self.check_member(vars(own)[member.partition('(')[0]], member)
+
+    def check_member(self, found, member):
+        """Fail unless a class itself has a method that is called like this, or such a property."""
+        if '(' not in member:
+            self.assertIsInstance(found, property)
+            return
+        signature = inspect.signature(found)
+        signature = signature.replace(parameters=list(signature.parameters.values())[1:])
+        self.assertEqual(found.__name__ + str(signature), member)
 
 
 if __name__ == '__main__':
