@@ -1,4 +1,4 @@
-"""The examples of DOC.md for the stages that have landed, as they stand there, and those of README.md."""
+"""The examples of DOC.md, as they stand there, and those of README.md."""
 
 import pathlib
 import unittest
@@ -7,7 +7,7 @@ from followrows import errors
 
 README = pathlib.Path(__file__).resolve().parent.parent / 'README.md'
 
-EXAMPLES = """
+EXAMPLES = r"""
 >>> from followrows.clauses import cost, flat, is_clause, writing_of
 >>> ladder = writing_of(1, 2, each=[(-1, 2)], nexts=[(-2, 4), (-3, -2)])
 >>> ladder
@@ -144,6 +144,39 @@ False
 raises AlreadyTold
 >>> [led.told, len(led), is_reason(ladder, [(None, True), (None, None), (None, None)], 1, 1, led.reason(1, 1))]
 [[(0, 2, True)], 1, True]
+
+>>> from followrows.texts import format_setting, format_wish, format_writing, parse_setting, parse_wish, parse_writing
+>>> format_writing(ladder).split('\n')
+['inputs 1 size 2', 'each -1 2', 'nexts -2 4', 'nexts -3 -2']
+>>> format_wish(at_most(1)).split('\n')
+['inputs 1', 'good 0 1', 'good 1 2', 'bad 2 2']
+>>> [parse_setting(2, '1? 00'), format_setting([(None,), (True,)]), parse_writing(format_writing(split)) == split]
+[[(True, None), (False, False)], '? 1', True]
+>>> parse_wish('inputs 1\ngood 0 3')
+raises ParseError with line 2
+
+>>> from followrows.made import writing_for
+>>> even = (1, ((0, 1), (1, 0)), (True, False))
+>>> writing_for(even)
+(1, 2, ((-2, 1), (-1, 2)), (), ((-4, -3, -2), (-4, 2, 3), (-3, 2, 4), (-2, 3, 4)), ((-2,),))
+>>> [is_right(writing_for(even), even), sees_all(writing_for(even), even), writing_for((1, ((0, 0),), (True,)))]
+[True, True, (1, 2, ((-2,),), (), ((-4,), (-2,)), ((-2,),))]
+
+>>> from followrows.desk import Desk
+>>> desk = Desk(short, at_most(1))
+>>> [desk.ask('ends'), desk.ask('sound'), desk.searches, desk.add('nexts', (-2, 4)), desk.kept()]
+[[(True,), (None,), (True,)], None, 2, None, {}]
+>>> [desk.ask('ends'), desk.add('first', (1,)), desk.ask('ends'), desk.ask('sound'), desk.searches]
+[None, None, None, [(None,)], 4]
+>>> [desk.undo(steps=2), desk.kept(), desk.writing == short, len(desk)]
+[None, {}, True, 0]
+
+>>> from followrows.shell import Shell
+>>> shell = Shell()
+>>> [shell.run(line) for line in ['write ladder inputs,1,size,2/each,-1,2/nexts,-2,4/nexts,-3,-2', 'wish most inputs,1/good,0,1/good,1,2/bad,2,2', 'right ladder most', 'all ladder most']]
+['ok', 'ok', 'yes', 'yes']
+>>> [shell.run(line) for line in ['seen ladder ?,1,?', 'lead one ladder 3', 'tell one 1 1 1', 'row one', 'names']]
+['0 1 0', 'ok', '5', '00 11 01', 'ladder / most / one']
 """
 
 

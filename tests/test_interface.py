@@ -113,12 +113,30 @@ FUNCTIONS = {
         'count_dead(writing, many)',
         'count_lost(wish, many)',
     ],
+    'followrows.texts': [
+        'format_writing(writing)',
+        'format_wish(wish)',
+        'format_setting(setting)',
+        'parse_writing(text)',
+        'parse_wish(text)',
+        'parse_setting(inputs, text)',
+    ],
+    'followrows.made': [
+        'writing_for(wish)',
+    ],
 }
 # The methods as they are called, and the properties without anything behind their names.
 CLASSES = {
     'followrows.led': {
         'Led(writing, many)': ['tell(column, sign, value)', 'undo()', 'reason(column, sign)', 'copy()', '__len__()', 'row',
                                'told'],
+    },
+    'followrows.desk': {
+        'Desk(writing, wish)': ['add(part, clause)', 'remove(part, index)', 'undo(*, steps=1)', 'ask(question)', 'kept()',
+                                'copy()', '__len__()', 'writing', 'wish', 'searches'],
+    },
+    'followrows.shell': {
+        'Shell()': ['run(line)'],
     },
 }
 
