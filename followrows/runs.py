@@ -10,14 +10,14 @@ from followrows.wishes import check_wish, common
 
 MOST_RUNS = 100
 # Of forty digits.
-MOST_COUNTED = 10 ** 40 - 1
+MOST_COUNT = 10 ** 40 - 1
 
 
 def is_run(inputs, thing):
     """Return whether an object can be one of some runs of so many inputs."""
     if not isinstance(thing, tuple) or len(thing) != 2:
         return False
-    return is_column(inputs, thing[0]) and is_between(1, MOST_COUNTED, thing[1])
+    return is_column(inputs, thing[0]) and is_between(1, MOST_COUNT, thing[1])
 
 
 def check_runs(inputs, thing):

@@ -2,7 +2,7 @@
 
 from followrows.alike import parting
 from followrows.ends import unseen_end
-from followrows.errors import InvalidLine, InvalidName, InvalidSetting, UnknownName
+from followrows.errors import InvalidLine, InvalidName, UnknownName
 from followrows.following import seen
 from followrows.forced import unseen
 from followrows.led import Led
@@ -43,12 +43,11 @@ def text_told(word):
     return word.replace(",", " ").replace("/", "\n")
 
 
+# What a word does not tell is None, and refused with the right error by what is asked with it.
+
 def setting_told(inputs, word):
-    """Return the setting of so many inputs that is written as one word; raise InvalidSetting if it is none."""
-    setting = setting_read(inputs, word.replace(",", " "))
-    if setting is None:
-        raise InvalidSetting("this tells no setting of as many inputs")
-    return setting
+    """Return the setting of so many inputs that is written as one word, or None if it tells none."""
+    return setting_read(inputs, word.replace(",", " "))
 
 
 def number_told(word):
@@ -129,7 +128,6 @@ def put_led(shell, name, other, count):
 def tell_led(shell, name, column, sign, value):
     """Tell an entry of a led row, and answer how many entries followed."""
     led = named(shell.leds, name)
-    # What a word does not tell is None, which a led row refuses.
     told = led.tell(number_told(column), number_told(sign), VALUES.get(value))
     return DEAD if told is None else str(len(told))
 

@@ -28,6 +28,11 @@ METHODS = set("""
 """.split())
 MODULE_LEVEL = (ast.ImportFrom, ast.FunctionDef, ast.ClassDef, ast.Assign)
 NOWHERE = (ast.Import, ast.AsyncFunctionDef, ast.AsyncFor, ast.AsyncWith, ast.Await, ast.Div, ast.MatMult)
+BARRED_NAMES = set("""
+    register mro elements open input law version_info with_traceback add_note attrgetter breakpoint builtins compile
+    copyright credits delattr dir eval exec exit gc globals help id importlib license locals methodcaller os quit vars
+    sys format hash map next round
+""".split())
 BARRED_WORDS = re.compile(r'\b(typing|typing_extensions|enum|Enum|IntEnum|Flag|Generic|Protocol|ABC|namedtuple)\b')
 
 
@@ -145,6 +150,30 @@ class Form(unittest.TestCase):
                     above = parents[node]
                     self.assertIsInstance(above, ast.Call, name)
                     self.assertIn(above.func.id, ('sorted', 'len'), name)
+
+    def test_classes(self):
+        for name, tree in trees():
+            for node in ast.walk(tree):
+                if isinstance(node, (ast.FunctionDef, ast.ClassDef)):
+                    decorators = [ast.unparse(decorator) for decorator in node.decorator_list]
+                    self.assertIn(decorators, ([], ['property']), name)
+        classes = [node for _, tree in trees() for node in ast.walk(tree) if isinstance(node, ast.ClassDef)]
+        methods = [member for node in classes for member in node.body if isinstance(member, ast.FunctionDef)]
+        properties = {member.name for member in methods if member.decorator_list}
+        others = {member.name for member in methods if not member.decorator_list}
+        stored = {node.attr for _, tree in trees() for node in ast.walk(tree)
+                  if isinstance(node, ast.Attribute) and isinstance(node.ctx, ast.Store)}
+        read = {node.attr for _, tree in trees() for node in ast.walk(tree)
+                if isinstance(node, ast.Attribute) and isinstance(node.ctx, ast.Load)}
+        self.assertEqual((properties & others) | (properties & stored) | (others & stored), set())
+        self.assertEqual(read - stored - others - properties - METHODS, set())
+
+    def test_barred_names(self):
+        for name, tree in trees():
+            for node in ast.walk(tree):
+                for word in (getattr(node, 'id', None), getattr(node, 'arg', None), getattr(node, 'attr', None),
+                             getattr(node, 'name', None)):
+                    self.assertNotIn(word, BARRED_NAMES, name)
 
     def test_builtins_and_methods(self):
         own = {node.name for _, tree in trees() for node in ast.walk(tree) if isinstance(node, ast.FunctionDef)}
